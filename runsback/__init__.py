@@ -1,0 +1,1 @@
+"""Runsback: what programs can bring about whose deeds can be undone."""
