@@ -1,11 +1,10 @@
 """Effects put together."""
 
+from runsback.demands import demand_same_deeds
 from runsback.effects import Effects, lot_along
-from runsback.errors import OtherDeeds
 from runsback.nets import letters_over
+from runsback.pairing import led_pairs
 from runsback.reckoning import merged, trimmed
-
-GONE = -1
 
 
 def both(one, other):
@@ -50,12 +49,6 @@ def again(one):
     return lot_along(one.deeds, turn + 1, arrows, turn, turn)
 
 
-def demand_same_deeds(one, other):
-    """Raise OtherDeeds for two with unlike deeds."""
-    if one.deeds != other.deeds:
-        raise OtherDeeds()
-
-
 def arrows_of(lot, more):
     """The steps of a lot as arrows between places that have so much greater numbers than its states."""
     arrows = []
@@ -68,32 +61,9 @@ def paired(one, other, wanted):
     """The nets that are wanted, by whether they belong to the one and whether to the other."""
     demand_same_deeds(one, other)
     letters = letters_over(one.deeds)
-    pairs, steps = led_pairs(letters, one.steps, other.steps)
+    pairs, steps = led_pairs(one, other)
     ends = [number for number, (state, second) in enumerate(pairs)
             if wanted(state in one.ends, second in other.ends)]
     steps, ends = trimmed(steps, ends)
     steps, ends = merged(letters, steps, ends)
     return Effects(one.deeds, steps, ends)
-
-
-def led_pairs(letters, steps, others):
-    """The pairs of states to which rows lead in two lots at once, and the steps between their numbers.
-
-    Where the row goes on in one of both alone, GONE stands for the state of the other one.
-    """
-    pairs = [(0, 0)]
-    numbers = {(0, 0): 0}
-    told = []
-    while len(told) < len(pairs):
-        state, second = pairs[len(told)]
-        here = {} if state == GONE else steps[state]
-        there = {} if second == GONE else others[second]
-        step = {}
-        for letter in letters:
-            led = (here.get(letter, GONE), there.get(letter, GONE))
-            if led != (GONE, GONE):
-                step[letter] = numbers.setdefault(led, len(pairs))
-                if step[letter] == len(pairs):
-                    pairs.append(led)
-        told.append(step)
-    return (pairs, told)

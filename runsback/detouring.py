@@ -58,6 +58,24 @@ def arrows_from(many, arrows):
     return led
 
 
+def mask_led(arrows, masks, lot, letter):
+    """The places to which a letter, and pairs behind it, lead a lot of places."""
+    led = 0
+    for place, told, goal in arrows:
+        if told == letter and lot >> place & 1:
+            led |= masks[goal]
+    return led
+
+
+def leads_along(many, arrows, start, goal, one):
+    """Whether rows of arrows with this net lead from a place to another one."""
+    masks = detour_masks(many, arrows)
+    lot = masks[start]
+    for letter in one:
+        lot = mask_led(arrows, masks, lot, letter)
+    return (lot >> goal) & 1 == 1
+
+
 class Weave:
     """The pairs of places that are known to be detours, those that follow by putting together included."""
 

@@ -1,8 +1,9 @@
 """Effects: lots of nets, told by the fewest states."""
 
-from runsback.errors import NoDeeds, NoNumber, NoRow, NoRows, TooLong
+from runsback.demands import demand_row_over, demand_rows_over
+from runsback.errors import NoNumber, TooLong
 from runsback.flows import flow
-from runsback.kinds import are_rows_over, is_deeds, is_integer_within, is_row_over
+from runsback.kinds import is_integer_within
 from runsback.nets import letters_over, reduced
 from runsback.reckoning import reckoned
 
@@ -36,10 +37,7 @@ def effects(program):
 
 def lot_of(deeds, rows):
     """The lot of the nets of the rows of a list or tuple."""
-    if not is_deeds(deeds):
-        raise NoDeeds()
-    if not are_rows_over(deeds, rows, 20, 12):
-        raise NoRows()
+    demand_rows_over(deeds, rows, 20, 12)
     arrows = []
     places = 2
     for row in rows:
@@ -58,8 +56,7 @@ def lot_along(deeds, places, arrows, start, goal):
 
 def has(lot, row):
     """Whether the net of the row belongs to the lot."""
-    if not is_row_over(lot.deeds, row):
-        raise NoRow()
+    demand_row_over(lot.deeds, row)
     steps = lot.steps
     state = 0
     for letter in reduced(row):

@@ -38,3 +38,17 @@ def are_rows_over(deeds, thing, most, longest):
     if not isinstance(thing, (list, tuple)) or len(thing) > most:
         return False
     return all([is_row_over(deeds, row) and len(row) <= longest for row in thing])
+
+
+def is_pair_below(first, second, thing):
+    """Whether the thing is a pair of integers from 0 on, each below its bound."""
+    if not isinstance(thing, tuple) or len(thing) != 2:
+        return False
+    return is_integer_within(thing[0], 0, first - 1) and is_integer_within(thing[1], 0, second - 1)
+
+
+def are_pairs_below(first, second, thing):
+    """Whether the thing is a list of different pairs of integers from 0 on, each below its bound."""
+    if not isinstance(thing, list) or not all([is_pair_below(first, second, pair) for pair in thing]):
+        return False
+    return len({pair for pair in thing}) == len(thing)

@@ -1,21 +1,20 @@
 """Shutters: detours and lots of places that show what is no effect."""
 
-from runsback.detouring import bits, detour_masks, mask_of
-from runsback.errors import NoRow
+from runsback.demands import demand_row_over
+from runsback.detouring import bits, detour_masks, mask_led, mask_of
 from runsback.flows import flow
-from runsback.kinds import is_integer_within, is_row_over
+from runsback.kinds import are_pairs_below, is_integer_within
 from runsback.nets import reduced
 
 
 def shutter(program, row):
     """A pair of detours and lots that shuts the row out, or None if its net is an effect."""
-    if not is_row_over(program.deeds, row):
-        raise NoRow()
+    demand_row_over(program.deeds, row)
     many, arrows = flow(program)
     masks = detour_masks(many, arrows)
     lots = [masks[0]]
     for letter in reduced(row):
-        lots.append(led_mask(arrows, masks, lots[-1], letter))
+        lots.append(mask_led(arrows, masks, lots[-1], letter))
     if lots[-1] >> 1 & 1:
         return None
     pairs = [(place, goal) for place in range(many) for goal in bits(masks[place])]
@@ -24,36 +23,17 @@ def shutter(program, row):
 
 def is_shutter(program, row, thing):
     """Whether the thing is a shutter for the row."""
-    if not is_row_over(program.deeds, row):
-        raise NoRow()
+    demand_row_over(program.deeds, row)
     if not isinstance(thing, tuple) or len(thing) != 2:
         return False
     many, arrows = flow(program)
     pairs, lots = thing
-    if not are_pairs(many, pairs) or not are_lots(many, lots):
+    if not are_pairs_below(many, many, pairs) or not are_lots(many, lots):
         return False
     masks = [0] * many
     for place, goal in pairs:
         masks[place] |= 1 << goal
     return has_all_pairs(arrows, masks) and shuts(arrows, masks, reduced(row), [mask_of(lot) for lot in lots])
-
-
-def led_mask(arrows, masks, lot, letter):
-    """The places to which a letter, and pairs behind it, lead a lot of places."""
-    led = 0
-    for place, told, goal in arrows:
-        if told == letter and lot >> place & 1:
-            led |= masks[goal]
-    return led
-
-
-def are_pairs(many, thing):
-    """Whether the thing is a list of different pairs of places."""
-    if not isinstance(thing, list):
-        return False
-    if not all([isinstance(pair, tuple) and len(pair) == 2 and are_places(many, pair) for pair in thing]):
-        return False
-    return len({pair for pair in thing}) == len(thing)
 
 
 def are_lots(many, thing):
@@ -90,4 +70,4 @@ def shuts(arrows, masks, one, lots):
     """Whether the lots have all that the letters of the net lead to, and the last place is not reached."""
     if len(lots) != len(one) + 1 or masks[0] & ~lots[0] or lots[-1] >> 1 & 1:
         return False
-    return all([led_mask(arrows, masks, lots[at], letter) & ~lots[at + 1] == 0 for at, letter in enumerate(one)])
+    return all([mask_led(arrows, masks, lots[at], letter) & ~lots[at + 1] == 0 for at, letter in enumerate(one)])

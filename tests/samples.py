@@ -5,6 +5,7 @@ import random
 from runsback.errors import NoRow
 from runsback.programs import Program
 from runsback.effects import lot_of
+from runsback.worlds import World
 
 LETTERS = "aAbBcCdDeEfFgGhHiIjJkKlLmMnNoOpPqQrRsStTuUvVwWxXyYzZ"
 
@@ -25,7 +26,7 @@ def odd_things():
         {}, {"a": 1}, {1: 2}, {None: ()}, {("a",): [1]}, {"a": {"b": {}}},
         object(), Ellipsis, NotImplemented, int, str, type, len, odd_things, lambda: 1, "a".upper,
         iter([1]), (x for x in "ab"), zip("ab", "cd"), enumerate("ab"), reversed([1]), {}.keys(), {}.items(),
-        ValueError("a"), NoRow(), NoRow, Program, Program("a", {}, ()), lot_of("a", ["a"]),
+        ValueError("a"), NoRow(), NoRow, Program, Program("a", {}, ()), lot_of("a", ["a"]), World("a", {"a": (0,)}),
         nested(lambda thing: (thing,), 40), nested(lambda thing: [thing], 40), nested(lambda thing: {"a": thing}, 40),
         nested(lambda thing: (("loop", thing),), 20), nested(lambda thing: ("do", thing), 40),
         nested(lambda thing: ((thing, 1),), 20),
@@ -189,3 +190,29 @@ def slow_row(parts, block, plan):
         else:
             row += flipped(slow_row(parts, inner, item))
     return row
+
+
+def chain_and_choices(letters):
+    """A program with as many states as letters and 256: so much later some letter was a."""
+    choice = ("either", ((("do", "a"),), (("do", "b"),)))
+    rows = [("do", "c" * min(12, letters - done)) for done in range(0, letters, 12)]
+    parts = {"rows": tuple(rows), "choices": (choice,) * 7}
+    return Program("abc", parts, (("part", "rows"), ("loop", (choice,)), ("do", "a"), ("part", "choices")))
+
+
+def chance_prices(chance, deeds, most=99):
+    """Prices by chance for the letters over the deeds."""
+    return {letter: chance.randint(1, most) for letter in LETTERS if letter.lower() in deeds}
+
+
+def chance_world(chance, deeds, size):
+    """A world by chance with so many standings."""
+    return World(deeds, {deed: tuple(chance.sample(range(size), size)) for deed in deeds})
+
+
+def slow_led(world, standing, row):
+    """The standing to which a row leads, the undoings being looked for."""
+    for letter in row:
+        move = world.moves[letter.lower()]
+        standing = move[standing] if letter.islower() else move.index(standing)
+    return standing

@@ -8,20 +8,12 @@ from runsback.errors import NoDeeds, NoNumber, NoRow, NoRows, TooLarge, TooLong
 from runsback.flows import flow
 from runsback.programs import Program
 from runsback.rows import earlier
-from tests.samples import (LETTERS, chance_programs, chance_row, nets_up_to, odd_integers, odd_strings, odd_things,
-                           rows_of_block, slow_detours, slow_has, slow_net)
+from tests.samples import (LETTERS, chain_and_choices, chance_programs, chance_row, nets_up_to, odd_integers, odd_strings,
+                           odd_things, rows_of_block, slow_detours, slow_has, slow_net)
 
 P = Program("ab", {}, (("loop", (("do", "ab"),)), ("do", "B")))
 EMPTY = lot_of("ab", [])
 ALL = effects(Program("ab", {}, (("loop", (("either", ((("do", "a"),), (("do", "A"),), (("do", "b"),), (("do", "B"),))),)),)))
-
-
-def chain_and_choices(letters):
-    """A program with as many states as letters and 256: so much later some letter was a."""
-    choice = ("either", ((("do", "a"),), (("do", "b"),)))
-    rows = [("do", "c" * min(12, letters - done)) for done in range(0, letters, 12)]
-    parts = {"rows": tuple(rows), "choices": (choice,) * 7}
-    return Program("abc", parts, (("part", "rows"), ("loop", (choice,)), ("do", "a"), ("part", "choices")))
 
 
 def sorted_nets(nets):

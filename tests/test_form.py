@@ -18,6 +18,7 @@ LET = set("""
 len range enumerate zip min max sum abs sorted reversed int str bool bytes list tuple dict set isinstance ord repr any
 all divmod map iter next type ValueError TypeError KeyError IndexError property
 """.split())
+LIBRARY = {"heapq": {"heappop", "heappush"}, "math": {"lcm"}}
 METHODS = {"__init__", "__eq__", "__repr__", "__str__", "__len__"}
 TAKES_A_LIST = {"any", "all", "min", "max", "sum", "sorted"}
 
@@ -110,9 +111,13 @@ class FormTest(unittest.TestCase):
         led = {}
         for path, tree in trees():
             own = "runsback." + path.stem
-            led[own] = [node.module for node in tree.body if isinstance(node, ast.ImportFrom)]
-            for name in led[own]:
-                self.assertTrue(name.startswith("runsback."), (path, name))
+            nodes = [node for node in tree.body if isinstance(node, ast.ImportFrom)]
+            for node in nodes:
+                if node.module in LIBRARY:
+                    self.assertLessEqual({alias.name for alias in node.names}, LIBRARY[node.module], path)
+                else:
+                    self.assertTrue(node.module.startswith("runsback."), (path, node.module))
+            led[own] = [node.module for node in nodes if node.module not in LIBRARY]
         for name in led:
             seen = set()
             waiting = list(led[name])
