@@ -5,6 +5,7 @@ import random
 from runsback.errors import NoRow
 from runsback.programs import Program
 from runsback.effects import lot_of
+from runsback.webs import web_of
 from runsback.worlds import World
 
 LETTERS = "aAbBcCdDeEfFgGhHiIjJkKlLmMnNoOpPqQrRsStTuUvVwWxXyYzZ"
@@ -26,7 +27,7 @@ def odd_things():
         {}, {"a": 1}, {1: 2}, {None: ()}, {("a",): [1]}, {"a": {"b": {}}},
         object(), Ellipsis, NotImplemented, int, str, type, len, odd_things, lambda: 1, "a".upper,
         iter([1]), (x for x in "ab"), zip("ab", "cd"), enumerate("ab"), reversed([1]), {}.keys(), {}.items(),
-        ValueError("a"), NoRow(), NoRow, Program, Program("a", {}, ()), lot_of("a", ["a"]), World("a", {"a": (0,)}),
+        ValueError("a"), NoRow(), NoRow, Program, Program("a", {}, ()), lot_of("a", ["a"]), World("a", {"a": (0,)}), web_of("a", ["a"]),
         nested(lambda thing: (thing,), 40), nested(lambda thing: [thing], 40), nested(lambda thing: {"a": thing}, 40),
         nested(lambda thing: (("loop", thing),), 20), nested(lambda thing: ("do", thing), 40),
         nested(lambda thing: ((thing, 1),), 20),
@@ -216,3 +217,44 @@ def slow_led(world, standing, row):
         move = world.moves[letter.lower()]
         standing = move[standing] if letter.islower() else move.index(standing)
     return standing
+
+
+def slow_web(deeds, nets):
+    """The set of the ways of the web that keeps what the nets make, folded pair by pair, with any places but 0."""
+    ways = set()
+    for number, one in enumerate(nets):
+        stops = [0] + [(number, at) for at in range(1, len(one))] + [0]
+        for at, letter in enumerate(one):
+            ends = (stops[at], stops[at + 1]) if letter.islower() else (stops[at + 1], stops[at])
+            ways.add((ends[0], letter.lower(), ends[1]))
+    while True:
+        pairs = [(w, v) for w in ways for v in ways if w != v and w[1] == v[1]]
+        pairs = [(w[2], v[2]) for w, v in pairs if w[0] == v[0]] + [(w[0], v[0]) for w, v in pairs if w[2] == v[2]]
+        if not pairs:
+            return ways
+        gone, kept = pairs[0] if pairs[0][1] == 0 else pairs[0][::-1]
+        ways = {tuple([kept if end == gone else end for end in way]) for way in ways}
+
+
+def slow_keeps(ways, one):
+    """Whether the letters of a net lead from 0 to 0 along ways."""
+    place = 0
+    for letter in one:
+        goals = [q if letter.islower() else p for p, d, q in ways if d == letter.lower() and (p if letter.islower() else q) == place]
+        if not goals:
+            return False
+        place = goals[0]
+    return place == 0
+
+
+def chance_rows(chance, deeds, many, longest):
+    return [chance_row(chance, deeds, longest) for _ in range(many)]
+
+
+def chance_product(chance, rows, many):
+    """A row that is made by at most so many of the rows and of undone ones."""
+    found = ""
+    for _ in range(chance.randint(0, many) if rows else 0):
+        row = chance.choice(rows)
+        found += chance.choice([row, flipped(row)])
+    return found

@@ -1,0 +1,45 @@
+"""The examples of the document, e01 to e12."""
+
+import unittest
+
+from runsback.comparing import beyond, within
+from runsback.covers import reached
+from runsback.effects import at, count, effects, has
+from runsback.flows import detours, flow
+from runsback.prices import cheapest
+from runsback.programs import Program
+from runsback.rings import sure
+from runsback.rows import net
+from runsback.webs import index, web_of
+from runsback.worlds import World
+
+
+class ExamplesTest(unittest.TestCase):
+    def setUp(self):
+        self.p = Program("ab", {}, (("loop", (("do", "ab"),)), ("do", "B")))
+        self.q = Program("ab", {}, (("either", ((("do", "a"),), (("do", "B"),))),))
+
+    def test_rows_and_flows(self):
+        self.assertEqual(net("abBAb"), "b")
+        self.assertEqual(flow(self.p), (5, [(0, "", 3), (3, "a", 4), (4, "b", 3), (3, "", 2), (2, "B", 1)]))
+        self.assertEqual(detours(self.p), [(0, 0), (0, 2), (0, 3), (1, 1), (2, 2), (3, 2), (3, 3), (4, 1), (4, 4)])
+
+    def test_effects(self):
+        lot = effects(self.p)
+        self.assertEqual((at(lot, 0), at(lot, 1), at(lot, 2)), ("a", "B", "aba"))
+        self.assertEqual(count(lot, 1), 2)
+
+    def test_comparing_and_prices(self):
+        self.assertIs(within(self.q, self.p), True)
+        self.assertEqual(beyond(self.p, self.q), "aba")
+        self.assertEqual(cheapest(self.p, {"a": 1, "A": 1, "b": 2, "B": 5}, "a")[0], 8)
+
+    def test_worlds(self):
+        self.assertEqual(reached(World("ab", {"a": (1, 2, 0), "b": (0, 1, 2)}), self.p, 0), [0, 1, 2])
+
+    def test_webs_and_rings(self):
+        self.assertEqual(web_of("ab", ["ab"]).ways, ((0, "a", 1), (1, "b", 0)))
+        self.assertEqual((index(web_of("a", [])), index(web_of("a", ["a"])), index(web_of("a", ["aa"]))), (None, 1, 2))
+        self.assertIs(has(effects(self.p), "BAB"), False)
+        self.assertIs(sure(self.p, "BAB"), True)
+        self.assertIs(sure(self.p, "A"), False)
