@@ -65,10 +65,10 @@ class Climb:
         """The dict from all detours to their least prices."""
         return {pair: self.sums[pair][0] for pair in self.sums}
 
-    def route(self, place, goal):
-        """The numbers of the arrows along a cheapest detour, in order."""
+    def route(self, pieces):
+        """The numbers of the arrows along pieces that stand one behind another, cheapest detours among them."""
         found = []
-        waiting = [(place, goal)]
+        waiting = pieces[::-1]
         while waiting:
             piece = waiting.pop()
             if isinstance(piece, int):
@@ -119,16 +119,18 @@ def keep_least(layer, place, pair):
 
 def path_along(climb, layers, goal):
     """The numbers of the arrows of a cheapest run from place 0 to the goal, along the layers for its net."""
+    return climb.route(pieces_along(climb, layers, goal))
+
+
+def pieces_along(climb, layers, goal):
+    """The pieces of a cheapest run from place 0 to the goal, along the layers for its net."""
     pieces = []
     place = goal
     for layer in layers[:0:-1]:
         number = layer[place][1]
         start, _, behind = climb.arrows[number]
-        pieces.append(climb.route(behind, place))
-        pieces.append([number])
+        pieces.append((behind, place))
+        pieces.append(number)
         place = start
-    pieces.append(climb.route(0, place))
-    path = []
-    for piece in pieces[::-1]:
-        path.extend(piece)
-    return path
+    pieces.append((0, place))
+    return pieces[::-1]

@@ -6,8 +6,7 @@ from runsback.statements import undone_block
 
 def flow(program):
     """The pair of the number of places and the list of the arrows of a program."""
-    laying = Laying(program.parts)
-    laying.lay_block(program.body, 0, 1)
+    laying = laid(program)
     return (laying.many, laying.arrows)
 
 
@@ -18,13 +17,21 @@ def detours(program):
     return [(place, goal) for place in range(many) for goal in bits(masks[place])]
 
 
+def laid(program):
+    """The flow of a program, with the places that are the other hand's."""
+    laying = Laying(program.parts)
+    laying.lay_block(program.body, 0, 1)
+    return laying
+
+
 class Laying:
-    """A flow that is being made."""
+    """A flow that is being made, and a list of the places in it that are the other hand's."""
 
     def __init__(self, blocks):
         self.blocks = blocks
         self.many = 2
         self.arrows = []
+        self.others = []
 
     def place(self):
         """Make a place."""
@@ -76,6 +83,7 @@ class Laying:
     def lay_other(self, blocks, start, goal):
         """Lay an other with these blocks."""
         middle = self.place()
+        self.others.append(middle)
         self.arrows.append((start, "", middle))
         for block in blocks:
             begin = self.place()

@@ -8,7 +8,7 @@ from runsback.flows import Laying
 from runsback.nets import reduced
 from runsback.pairing import first_beyond
 from runsback.statements import undone_block
-from runsback.webs import web_along
+from runsback.webs import Web, web_along
 
 MOST_TERMS = 32
 MOST_DEPTH = 2
@@ -55,6 +55,16 @@ def shallow_terms(program):
     if max([len(webs) for _, webs in found]) > MOST_DEPTH:
         raise TooDeep(MOST_DEPTH)
     return found
+
+
+def in_full(deeds, term):
+    """A term of depth 2 with the same nets as a term that is not too deep: (row, web, row, web, row)."""
+    rows, webs = term
+    lacking = MOST_DEPTH - len(webs)
+    # A web without ways keeps the empty net alone.
+    first, second = webs + (Web(deeds, 1, ()),) * lacking
+    start, middle, last = rows + ("",) * lacking
+    return (start, first, middle, second, last)
 
 
 def many_terms(parts, block):

@@ -80,6 +80,32 @@ class FormTest(unittest.TestCase):
                 if node.name.startswith("__"):
                     self.assertIn(node.name, METHODS, path)
 
+    def test_properties_are_no_attributes(self):
+        properties = {node.name for _, tree in trees() for node in functions(tree) if node.decorator_list}
+        self.assertEqual(properties, {"parts", "steps", "moves"})
+        for path, tree in trees():
+            for node in ast.walk(tree):
+                if isinstance(node, ast.Attribute) and isinstance(node.ctx, ast.Store):
+                    self.assertNotIn(node.attr, properties, (path, node.lineno))
+
+    def test_methods_are_no_attributes(self):
+        for path, tree in trees():
+            for each in [node for node in tree.body if isinstance(node, ast.ClassDef)]:
+                methods = {node.name for node in each.body if isinstance(node, ast.FunctionDef)}
+                stored = {node.attr for node in ast.walk(each) if isinstance(node, ast.Attribute) and isinstance(node.ctx, ast.Store)}
+                self.assertEqual(methods & stored, set(), (path, each.name))
+
+    def test_attributes_that_are_read_are_stored(self):
+        stored, read, made = set(), set(), set()
+        for _, tree in trees():
+            for node in ast.walk(tree):
+                if isinstance(node, ast.Attribute):
+                    (stored if isinstance(node.ctx, ast.Store) else read).add(node.attr)
+                if isinstance(node, ast.FunctionDef):
+                    made.add(node.name)
+        built_in = {name for kind in (str, list, dict, int, tuple) for name in dir(kind)}
+        self.assertEqual(read - stored - made - built_in, set())
+
     def test_names(self):
         for path, tree in trees():
             barred = {name for node in tree.body if isinstance(node, (ast.ImportFrom, ast.ClassDef))
