@@ -52,3 +52,13 @@ def are_pairs_below(first, second, thing):
     if not isinstance(thing, list) or not all([is_pair_below(first, second, pair) for pair in thing]):
         return False
     return len({pair for pair in thing}) == len(thing)
+
+
+def is_row_word(thing):
+    """Whether a word stands for a row: letters, or "-" for the empty row."""
+    return thing == "-" or (thing != "" and is_row(thing))
+
+
+def is_decimal(word):
+    """Whether a word is a decimal number from 0 on, without needless zeros, of at most nine digits."""
+    return word.isascii() and word.isdigit() and len(word) <= 9 and (word == "0" or word[0] != "0")

@@ -1,4 +1,4 @@
-"""The examples of the document, e01 to e12."""
+"""The examples of the document, e01 to e15."""
 
 import unittest
 
@@ -6,10 +6,13 @@ from runsback.comparing import beyond, within
 from runsback.covers import reached
 from runsback.effects import at, count, effects, has
 from runsback.flows import detours, flow
+from runsback.games import wins
+from runsback.keepers import Keeper
 from runsback.prices import cheapest
 from runsback.programs import Program
 from runsback.rings import sure
 from runsback.rows import net
+from runsback.sums import sum_paper
 from runsback.webs import index, web_of
 from runsback.worlds import World
 
@@ -43,3 +46,12 @@ class ExamplesTest(unittest.TestCase):
         self.assertIs(has(effects(self.p), "BAB"), False)
         self.assertIs(sure(self.p, "BAB"), True)
         self.assertIs(sure(self.p, "A"), False)
+
+    def test_sums_games_and_keepers(self):
+        self.assertEqual(sum_paper(self.p, "BAB"), (0, (-1,)))
+        program = Program("a", {}, (("other", ((("do", "a"),), ())), ("either", ((("do", "a"),), ()))))
+        self.assertIs(wins(World("a", {"a": (1, 0)}), program, 0, (0,)), True)
+        k = Keeper("ab")
+        k.tell("aa", True)
+        k.tell("a", False)
+        self.assertEqual(k.answer("aaa"), "away")
