@@ -53,9 +53,9 @@ class Stage:
         return (at, mask)
 
     def wandered(self, web, start, span):
-        """For each lot to which some row that the web keeps leads from the start, the mask of one such row.
+        """For each lot to which rows that the web keeps lead the start, the mask of one such row.
 
-        The masks of the others are found by adding what the span holds, to which all is given that they are unlike by.
+        By what the masks of two such rows may be unlike is given to the span: those of all ways round.
         """
         leads = leads_of(web)
         masks = {(0, start): 0}

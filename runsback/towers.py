@@ -64,12 +64,12 @@ def is_tower(deeds, thing):
 
 
 def tower_against(deeds, term, one):
-    """A tower in which no net of a term, told in full, has the same stand as the net one, which is none of them.
+    """A tower in which no net of a term, told in full, has the same stand as the net one.
 
-    All rows and webs of the term are laid, the net one beside them, all but one place being joined: the first web
-    stands at HERE, and from the MIDDLE on the second half is laid, to where the net leads. If these two places
-    stay different when all is folded, a world alone denies: were a net of the term to lead where the net one
-    leads, its first half would lead HERE, and from there its second half, gone backward, to the MIDDLE.
+    The first row is laid from place 0 to HERE, where the first web stands; the second half, which is the row
+    between, the second web and the last row, from the MIDDLE to place 1; and the net one from 0 to 1. If a net of
+    the term led from 0 to 1, too, its first half would lead HERE, and its second half would come from the MIDDLE.
+    So if these two stay different places when all is folded, a world alone denies.
     """
     first, web, between, other, last = term
     laying = Laying({})
@@ -84,12 +84,12 @@ def tower_against(deeds, term, one):
 
 
 def booked_tower(deeds, term, one):
-    """A tower with a book that denies where the net one leads along the first half and then along the second one.
+    """A tower with a book, for a net one by which HERE and the MIDDLE are laid on one another.
 
-    Were a net of the term to have the same stand, then what its first half and the beginning of the net one
-    differ by in the book would lie in the first half's ways and in those of the second one alike. So rows of such
-    ways would lead from where the net one changes over to where the net of the term does: both in the one half
-    and in the other one, and the net one would be a net of the term itself.
+    Then a beginning of the net one goes ways of the first half alone, and what is behind it ways of the second
+    one. If a net of the term had the same stand, its own first half and that beginning would be unlike, in the
+    book, by ways that belong to both halves. So a row of such ways would lead from where the one ends to where the
+    other one does, in both halves alike, and the net one would be a net of the term itself.
     """
     first, web, between, other, last = term
     ahead = Laying({})
